@@ -1,0 +1,1 @@
+"""The fewest sorted copies of a relation that serve all its searches."""
