@@ -1,21 +1,30 @@
-"""A relation, its searches, and the fewest orders that serve them all."""
+"""A relation, its searches, the fewest orders that serve them all, and its rows as they stand in these."""
 
 BEGIN = 0
 SEARCH = 1
 ORDERS = 2
 SERVES = 3
 APART = 4
+PUT = 5
+TAKE = 6
+FIND = 7
+NEXT = 8
+PLACE = 9
 
 # By a call's number: how many whole numbers it has, and how many lists behind them.
-CALL_NUMBERS = (1, 0, 0, 1, 0)
-CALL_LISTS = (0, 1, 0, 0, 0)
+CALL_NUMBERS = (1, 0, 0, 1, 0, 0, 0, 1, 1, 1)
+CALL_LISTS = (0, 1, 0, 0, 0, 1, 1, 1, 2, 1)
 
 MOST_COLUMNS = 7
 MOST_SEARCHES = 10
+MOST_ROWS = 60
+LEAST_VALUE = -1000000000
+GREATEST_VALUE = 1000000000
 
 WRONG = -1
 NO_SUCH = -2
 THERE_ALREADY = -3
+NO_ROW = -4
 FULL = -6
 NO_RELATION = -9
 
@@ -47,7 +56,17 @@ def answer_call(reader, relation):
         return relation.orders()
     if call == SERVES:
         return relation.serves(numbers[0])
-    return relation.apart()
+    if call == APART:
+        return relation.apart()
+    if call == PUT:
+        return relation.put(lists[0])
+    if call == TAKE:
+        return relation.take(lists[0])
+    if call == FIND:
+        return relation.find_rows(numbers[0], lists[0])
+    if call == NEXT:
+        return relation.next_row(numbers[0], lists[0], lists[1])
+    return relation.place(numbers[0], lists[0])
 
 
 class CallReader:
@@ -78,21 +97,33 @@ class CallReader:
 
 
 class Relation:
-    """Each method of a call's name gives back all numbers of its answer."""
+    """The method of each call gives back all numbers of its answer."""
 
     def __init__(self):
         # No relation has 0 columns, so 0 stands for one that isn't there.
         self.columns = 0
         self.searches = []
+        self.rows = []
 
     def is_there(self):
         return self.columns > 0
+
+    def has_search(self, which):
+        return which >= 0 and which < len(self.searches)
+
+    def has_values(self, which, wanted):
+        """Whether these are as many values as the search has columns."""
+        return are_values(wanted, len(self.searches[which]))
+
+    def is_row(self, row):
+        return are_values(row, self.columns)
 
     def begin(self, columns):
         if columns < 1 or columns > MOST_COLUMNS:
             return [WRONG]
         self.columns = columns
         self.searches = []
+        self.rows = []
         return [0]
 
     def search(self, known):
@@ -106,22 +137,100 @@ class Relation:
         return [len(self.searches) - 1]
 
     def orders(self):
-        chains = chains_of(self.searches)
-        answer = [len(chains)]
-        for chain in chains:
-            answer.extend(order_of(chain, self.searches, self.columns))
-        return answer
+        return counted(self.all_orders())
 
     def serves(self, which):
-        if which < 0 or which >= len(self.searches):
+        if not self.has_search(which):
             return [NO_SUCH]
-        chains = chains_of(self.searches)
-        holding = [number for number, chain in enumerate(chains) if which in chain]
-        return [holding[0], len(self.searches[which])]
+        return [chain_with(which, chains_of(self.searches)), len(self.searches[which])]
 
     def apart(self):
         chosen = first_greatest_apart(self.searches)
         return [len(chosen)] + chosen
+
+    def put(self, row):
+        if not self.is_row(row):
+            return [WRONG]
+        if row in self.rows:
+            return [0]
+        if len(self.rows) == MOST_ROWS:
+            return [FULL]
+        self.rows.append(row)
+        return [1]
+
+    def take(self, row):
+        if not self.is_row(row):
+            return [WRONG]
+        if row not in self.rows:
+            return [0]
+        self.rows.remove(row)
+        return [1]
+
+    def find_rows(self, which, wanted):
+        if not self.has_search(which):
+            return [NO_SUCH]
+        if not self.has_values(which, wanted):
+            return [WRONG]
+        return counted(self.rows_with(which, wanted))
+
+    def next_row(self, which, wanted, row):
+        if not self.has_search(which):
+            return [NO_SUCH]
+        if not self.has_values(which, wanted) or not self.is_row(row):
+            return [WRONG]
+        order = self.order_with(which)
+        for other in self.rows_with(which, wanted):
+            if stands_ahead(row, other, order):
+                return [self.columns] + other
+        return [NO_ROW]
+
+    def place(self, number, row):
+        orders = self.all_orders()
+        if number < 0 or number >= len(orders):
+            return [NO_SUCH]
+        if not self.is_row(row):
+            return [WRONG]
+        ahead = [other for other in self.rows if stands_ahead(other, row, orders[number])]
+        return [1 if row in self.rows else 0, len(ahead)]
+
+    def all_orders(self):
+        return [order_of(chain, self.searches, self.columns) for chain in chains_of(self.searches)]
+
+    def order_with(self, which):
+        """The order of the search's own chain."""
+        chains = chains_of(self.searches)
+        return order_of(chains[chain_with(which, chains)], self.searches, self.columns)
+
+    def rows_with(self, which, wanted):
+        """The rows that have these values in the search's columns, as they stand in its order."""
+        order = self.order_with(which)
+        found = [row for row in self.rows if values_in(row, self.searches[which]) == wanted]
+        return sorted(found, key=lambda row: values_in(row, order))
+
+
+def counted(lists):
+    """How many lists there are, then the numbers of each."""
+    numbers = [len(lists)]
+    for one in lists:
+        numbers.extend(one)
+    return numbers
+
+
+def are_values(numbers, how_many):
+    """Whether these are so many numbers, each of them a value."""
+    if len(numbers) != how_many:
+        return False
+    return all([number >= LEAST_VALUE and number <= GREATEST_VALUE for number in numbers])
+
+
+def values_in(row, columns):
+    """The row's values in these columns, one behind another."""
+    return [row[column] for column in columns]
+
+
+def stands_ahead(row, other, order):
+    """Whether the row stands ahead of the other one in this order."""
+    return values_in(row, order) < values_in(other, order)
 
 
 def are_columns(known, columns):
@@ -214,6 +323,12 @@ def chains_of(searches):
         if [one] not in links:
             chains.append(chain_from(one, links))
     return chains
+
+
+def chain_with(which, chains):
+    """The number of the chain that has this search."""
+    holding = [number for number, chain in enumerate(chains) if which in chain]
+    return holding[0]
 
 
 def order_of(chain, searches, columns):
